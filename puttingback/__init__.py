@@ -1,0 +1,1 @@
+"""Puttingback: what is shown of a thing is changed and put back."""
