@@ -30,6 +30,14 @@ INTERFACE = {
     "tables": "showing_of puts_of",
     "diagrams": "least_diagram is_diagram diagram_shown unlike_thing asked_leaves",
     "putting": "first_refusal unlike_put changed_leaves",
+    "sorts": "is_sort is_item count_items item_number item_at kind_sort",
+    "itemtexts": "item_text read_item",
+    "sortforms": "plain_sort lies_within least_beyond least_common led_item",
+    "putrules": "rules_of count_ways way_of bar_of",
+    "putgrids": "listing_of clash_of filling_of count_fillings filling_bar",
+    "putsides": "count_sides lacking_pair",
+    "putbehind": "listing_joined grid_joined rules_behind loss_behind",
+    "asides": "is_showing tidy_aside puts_kept serves serving_clash is_serving_clash put_alike parting_put",
     "errors": "PutError TooMany InvalidItemText",
 }
 

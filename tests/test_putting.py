@@ -90,6 +90,7 @@ class Errors(Asking):
             self.refused(InvalidTerm, first_refusal, NINE, term)
             self.refused(InvalidTerm, changed_leaves, NINE, term)
             self.refused(InvalidTerm, unlike_put, NINE, term, None)
+            self.refused(InvalidTerm, unlike_put, NINE, term, ("part", "a"))
             self.refused(InvalidTerm, unlike_put, NINE, ("part", "a"), term)
 
     def test_unlike_kinds_of_worths_ahead_of_too_many(self):
