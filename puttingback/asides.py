@@ -1,7 +1,7 @@
 """Showings, and what is kept aside of their things so that puts are let."""
 
 from puttingback.errors import InvalidAside, InvalidShowing
-from puttingback.values import is_below, is_numbers_row, is_row
+from puttingback.values import is_below, is_numbers_row, is_row, tidy_row
 
 MOST_WORTHS = 12
 MOST_THINGS = 40
@@ -9,19 +9,14 @@ MOST_THINGS = 40
 
 def is_showing(value):
     """Return whether any value is a showing."""
-    if not is_row(value, 2, 2) or not is_below(value[0], MOST_WORTHS + 1):
-        return False
-    return is_numbers_row(value[1], 0, MOST_THINGS, value[0])
+    return is_showing_within(value, MOST_WORTHS, MOST_THINGS)
 
 
 def tidy_aside(showing, aside):
     """Return the tidy aside with the same lots as an aside."""
     check_showing(showing)
     check_aside(showing, aside)
-    numbers = {}
-    for side in aside:
-        numbers.setdefault(side, len(numbers))
-    return tuple([numbers[side] for side in aside])
+    return tidy_row(aside)
 
 
 def puts_kept(showing, aside):
@@ -84,6 +79,13 @@ def parting_put(showing, aside, beside):
             if end != other_puts[thing][worth]:
                 return (thing, worth)
     return None
+
+
+def is_showing_within(value, most_worths, most_things):
+    """Return whether any value is a showing of at most so many worths and things."""
+    if not is_row(value, 2, 2) or not is_below(value[0], most_worths + 1):
+        return False
+    return is_numbers_row(value[1], 0, most_things, value[0])
 
 
 def check_showing(showing):

@@ -2,7 +2,7 @@
 
 from puttingback.errors import InvalidNumber, InvalidTold
 from puttingback.putrules import MOST_THINGS, MOST_WORTHS, check_grid
-from puttingback.values import is_below, is_row
+from puttingback.values import all_lots, is_below, is_row
 
 MOST_TOLD = 40
 
@@ -136,14 +136,6 @@ def worths_left(things, worths, told):
         left = [worth for worth in range(worths) if worth not in barred]
         choices.append([worth for worth in left if worth in needed] if needed else left)
     return choices
-
-
-def all_lots(worths):
-    """Return the list of all ascending rows of worths, those with fewer ones first."""
-    lots = [()]
-    for worth in range(worths):
-        lots = lots + [lot + (worth,) for lot in lots]
-    return sorted(lots, key=lambda lot: (len(lot), lot))
 
 
 def holders_of(worths, choices):

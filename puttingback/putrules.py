@@ -3,7 +3,7 @@
 from math import comb, factorial
 
 from puttingback.errors import InvalidGrid, InvalidListing, InvalidRules
-from puttingback.values import is_ascending, is_below, is_numbers_row, is_row, power
+from puttingback.values import is_ascending, is_below, is_numbers_row, is_row, is_table, power
 
 MOST_THINGS = 12
 MOST_WORTHS = 8
@@ -71,13 +71,8 @@ def check_listing(listing):
 
 def check_grid(things, worths, grid):
     """Raise InvalidGrid for what is no grid for so many things and worths."""
-    if not is_row(grid, things, things):
-        raise InvalidGrid("not a row for each thing")
-    for row in grid:
-        if not is_row(row, worths, worths):
-            raise InvalidGrid("not a put for each worth")
-        if not all([end is None or is_below(end, things) for end in row]):
-            raise InvalidGrid("not a thing, or None")
+    if not is_table(grid, things, worths):
+        raise InvalidGrid("not a thing, or None, for each thing and each worth")
 
 
 def check_rules(rules):

@@ -68,6 +68,40 @@ def is_built_small(value, inner_of, depth, size):
     return False
 
 
+def is_table(value, things, worths):
+    """Return whether any value is a row, for each thing, of the row, for each worth, of a thing or None."""
+    if not is_row(value, things, things) or not all([is_row(row, worths, worths) for row in value]):
+        return False
+    return all([end is None or is_below(end, things) for row in value for end in row])
+
+
+def all_lots(many):
+    """Return the list of all ascending rows of numbers below a limit, those with fewer ones first."""
+    lots = [()]
+    for number in range(many):
+        lots = lots + [lot + (number,) for lot in lots]
+    return [lot for _, lot in sorted([(len(lot), lot) for lot in lots])]
+
+
+def least_lots(many, holds):
+    """Return the ascending list of the lots of which a function tells that they hold, but not without any one."""
+    held = {lot: holds(lot) for lot in all_lots(many)}
+    return sorted([lot for lot in held if held[lot] and not any([held[less] for less in lots_less_one(lot)])])
+
+
+def lots_less_one(lot):
+    """Return the list of the lots that a lot leaves without each one of what it has."""
+    return [lot[:at] + lot[at + 1:] for at in range(len(lot))]
+
+
+def tidy_row(marks):
+    """Return the row of numbers that are the same where marks are: 0 for the first one, then the least new ones."""
+    numbers = {}
+    for mark in marks:
+        numbers.setdefault(mark, len(numbers))
+    return tuple([numbers[mark] for mark in marks])
+
+
 def power(base, exponent):
     """Return the product of so many times the base."""
     result = 1
