@@ -38,6 +38,21 @@ INTERFACE = {
     "putsides": "count_sides lacking_pair",
     "putbehind": "listing_joined grid_joined rules_behind loss_behind",
     "asides": "is_showing tidy_aside puts_kept serves serving_clash is_serving_clash put_alike parting_put",
+    "keptputs": "kept_of puts_fault is_puts_fault",
+    "wishes": "wished_aside wish_clash is_wish_clash serving_aside",
+    "asidelots": "telling_lots serving_lots told_alike one_by_one lacking_row finest_split",
+    "cases": "is_case least_trail",
+    "keeping": "keys_hold first_parted least_keys keys_go_on answers_by renewals_by",
+    "fieldlots": "holding_lots",
+    "letting": "lets_once lets_always",
+    "staying": "firm_stays",
+    "framelots": "is_frame is_sheet closure_of closed_lots telling_row untold_sheet",
+    "frameways": "without_column may_be_shown way_back is_way_back forcing_lots can_leave_out unserved_change",
+    "frametests": "taken_rows rows_back columns_asked can_take clashing_rows",
+    "framecuts": "parted_sheet joined_parts can_part unjoined_sheet",
+    "editmachines": "is_machine come_by failing_row serving_lot is_serving_lot",
+    "editalikes": "parting_row alike_lot is_alike_lot",
+    "editforgets": "forgets_by kept_rows exchange_row",
     "errors": "PutError TooMany InvalidItemText",
 }
 
@@ -176,6 +191,27 @@ class Code(unittest.TestCase):
                 if isinstance(node.func, ast.Name) and node.func.id in ("sorted", "len")]
         for name, node in nodes(ast.SetComp, ast.Set):
             self.assertIn(node, held, (name, node.lineno))
+
+    def test_ranges_and_the_like_are_iterated_at_once(self):
+        lasting = {"range", "zip", "enumerate", "reversed"}
+        takers = {"list", "tuple", "dict", "sorted", "sum", "min", "max", "any", "all", "enumerate", "zip", "reversed"}
+        at_once = [node.iter for _, node in nodes(ast.For, ast.comprehension)]
+        at_once += [argument for _, node in nodes(ast.Call) if isinstance(node.func, ast.Name) and node.func.id in takers
+                    for argument in node.args]
+        for name, node in nodes(ast.Call):
+            word = getattr(node.func, "id", getattr(node.func, "attr", None))
+            if word in lasting | {"items", "keys", "values"}:
+                self.assertIn(node, at_once, (name, node.lineno))
+
+    def test_what_is_iterated_is_not_changed(self):
+        changing = {"append", "extend", "insert", "pop", "remove", "clear", "reverse", "sort", "update", "setdefault"}
+        for name, node in nodes(ast.For):
+            iterated = {inner.id for inner in ast.walk(node.iter) if isinstance(inner, ast.Name)}
+            for inner in ast.walk(node):
+                if isinstance(inner, ast.Call) and isinstance(inner.func, ast.Attribute) and inner.func.attr in changing:
+                    self.assertNotIn(getattr(inner.func.value, "id", None), iterated, (name, inner.lineno))
+                if isinstance(inner, ast.Subscript) and isinstance(inner.ctx, ast.Store):
+                    self.assertNotIn(getattr(inner.value, "id", None), iterated, (name, inner.lineno))
 
     def test_strings(self):
         for name, tree in TREES.items():
