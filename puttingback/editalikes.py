@@ -1,8 +1,9 @@
 """Machines that leave the same things behind all rows, and lots by which this is told."""
 
-from puttingback.editmachines import (FAILED, check_machine, check_serving, is_closed, is_triple, moves_of, rows_ahead,
-                                      told_row, triples_ahead)
+from puttingback.editmachines import (check_machine, check_serving, is_closed, is_triple, moves_of, told_row,
+                                      triples_ahead)
 from puttingback.errors import UnlikeSides
+from puttingback.reaching import FAILED, rows_ahead
 from puttingback.values import is_ascending, is_row
 
 # The quadruple at which two machines begin.

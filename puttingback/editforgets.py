@@ -1,8 +1,9 @@
 """What machines that serve keep beside the things of their sides, and letters that can be exchanged."""
 
-from puttingback.editmachines import (MOST_LETTERS, check_letter, check_machine, check_serving, moves_of, row_to,
-                                      told_row, triples_ahead)
+from puttingback.editmachines import (MOST_LETTERS, check_letter, check_machine, check_serving, moves_of, told_row,
+                                      triples_ahead)
 from puttingback.errors import TooMany
+from puttingback.reaching import row_to
 
 
 def forgets_by(machine):

@@ -1,6 +1,7 @@
 """Machines that answer edits of one side by edits of the other, and whether they serve."""
 
 from puttingback.errors import InvalidLetter, InvalidMachine, InvalidRow, NotServing, TooMany
+from puttingback.reaching import FAILED, row_to, rows_ahead
 from puttingback.values import is_ascending, is_below, is_integer, is_numbers_row, is_row
 
 MOST_EDITS = 3
@@ -9,9 +10,8 @@ MOST_STANDINGS = 64
 MOST_ANSWERED = 16
 MOST_LETTERS = 400
 
-# The triple at which machines begin, and what stands for a triple where a machine fails (None, where nothing is let).
+# The triple at which machines begin.
 START = (0, 0, 0)
-FAILED = ()
 
 
 def is_machine(value):
@@ -158,36 +158,6 @@ def moves_of(machine):
 def triples_ahead(moves):
     """Return what rows_ahead does of the triples of a machine with some moves."""
     return rows_ahead(START, lambda triple: moves[triple])
-
-
-def rows_ahead(start, moves_at):
-    """Return the dict, for each place to which rows come from a first one, of the place and the letter ahead of it.
-
-    A place here is anything for which a function tells the list of the letters that are let, with the place to which
-    each comes. FAILED is among these if some row fails. By what is ahead go the least rows, in whose order all stand.
-    """
-    ahead = {start: None}
-    level = [start]
-    while level:
-        deeper = []
-        for place in level:
-            for letter, came in moves_at(place):
-                if came not in ahead:
-                    ahead[came] = (place, letter)
-                    if came != FAILED:
-                        deeper.append(came)
-        level = deeper
-    return ahead
-
-
-def row_to(ahead, end):
-    """Return the least row that comes to what surely is one of the places to which rows come."""
-    letters = []
-    step = ahead[end]
-    while step is not None:
-        letters.append(step[1])
-        step = ahead[step[0]]
-    return tuple(letters[::-1])
 
 
 def told_row(ahead, end):

@@ -134,3 +134,44 @@ def wandering(many, left):
         on = min(at + 1, many - 1) if at < many else many
         rows.append((((at, ()), (at, (1,)), (many, (2,) if at == many - 1 else ())), ((on, ()), (many, ()), (many, ()))))
     return sides + (tuple(rows),)
+
+
+def slow_parting(machine, triples):
+    """Return the set of all pairs of some triples that part."""
+    parting = {(one, other) for one in triples for other in triples if one[::2] != other[::2]}
+    more = True
+    while more:
+        more = False
+        for one in triples:
+            for other in triples:
+                if (one, other) not in parting:
+                    ends = [(slow_step(machine, one, letter), slow_step(machine, other, letter)) for letter in letters(machine)]
+                    if any(pair in parting for pair in ends):
+                        parting.add((one, other))
+                        more = True
+    return parting
+
+
+def climbing(many, left):
+    """Return a machine that needs 10 letters to come from each of so many standings to the next one.
+
+    Letters of the left side go round by 12 of them, and so are taken back, but for (0, 2), which is let at one left place:
+    behind these standings, and there alone, it leads to one more, from which none leads.
+    """
+    holding = tuple(place if place == left else -1 for place in range(3))
+    sides = ((1, 2, -1), (-1, -1, 0), holding), ((-1, -1, -1, 0), (1, 2, 3, 0))
+    out = many + 1
+    rows = [(((at, ()), (at, (1,)), (at if at < many else out, ())), ((min(at + 1, many), ()), (out, ())))
+            for at in range(many + 1)]
+    return sides + (tuple(rows) + ((((out, ()),) * 3, ((out, ()),) * 2),),)
+
+
+def copying(side):
+    """Return a machine with two sides that are the same, by which each edit of one is answered by itself on the other."""
+    told = tuple((0, (edit,)) for edit in range(len(side)))
+    return (side, side, ((told, told),))
+
+
+def turned(machine):
+    """Return a machine with its sides turned about."""
+    return (machine[1], machine[0], tuple(standing[::-1] for standing in machine[2]))

@@ -4,27 +4,11 @@ from puttingback.editforgets import exchange_row, forgets_by, kept_rows
 from puttingback.errors import InvalidLetter, InvalidMachine, NotServing
 from tests.asking import Asking
 from tests.machinesamples import (A, F, GREAT, H, LEAST, REFUSING, counting, letters, machines, mark_at, rows_of, serving,
-                                  slow_come_by, slow_step, slow_triples, wandering)
+                                  slow_come_by, slow_parting, slow_step, slow_triples, wandering)
 from tests.test_editmachines import BAD_MACHINES
 from tests.values import odd_values, spoiled
 
 SERVING = serving(machines(250, 2, 3, 3, 12))
-
-
-def slow_parting(machine, triples):
-    """Return the set of all pairs of some triples that part."""
-    parting = {(one, other) for one in triples for other in triples if one[::2] != other[::2]}
-    more = True
-    while more:
-        more = False
-        for one in triples:
-            for other in triples:
-                if (one, other) not in parting:
-                    ends = [(slow_step(machine, one, letter), slow_step(machine, other, letter)) for letter in letters(machine)]
-                    if any(pair in parting for pair in ends):
-                        parting.add((one, other))
-                        more = True
-    return parting
 
 
 def can_exchange(machine, parting, triple, letter, second):

@@ -53,6 +53,14 @@ INTERFACE = {
     "editmachines": "is_machine come_by failing_row serving_lot is_serving_lot",
     "editalikes": "parting_row alike_lot is_alike_lot",
     "editforgets": "forgets_by kept_rows exchange_row",
+    "editbacks": "longest_way lost_letter",
+    "editbehinds": "failing_behind put_behind",
+    "hubs": "is_hub hub_of done_at heard_by are_woven end_alike",
+    "huborders": "orders_agree parting_changes hub_fences",
+    "hubtold": "is_never_told class_paper is_class_paper told_row",
+    "hublate": "may_look_late late_row",
+    "nets": "is_net is_turning is_way way_end way_row",
+    "turnings": "naming_of is_naming moving_ring classes_of way_between",
     "errors": "PutError TooMany InvalidItemText",
 }
 
