@@ -88,7 +88,8 @@ def told_rows(hub, lot):
                 row = row_begun(hub, rows, pair, change)
                 if pair not in rows and row is not None:
                     found.setdefault(pair, row)
-        rows.update(found)
+        for pair in found:
+            rows[pair] = found[pair]
     return rows
 
 

@@ -124,10 +124,16 @@ def all_places(net):
     return [(version, number) for version, kind in enumerate(net[0]) for number in range(many_things(kind))]
 
 
-def places_ahead(net, place):
-    """Return what rows_ahead does of the places of a net, from one on, by all steps that stand in ways."""
-    moves = {other: [] for other in all_places(net)}
+def place_moves(net):
+    """Return the dict, for each place of a net, of the list of all steps from it, with the place behind each."""
+    moves = {place: [] for place in all_places(net)}
     for step, (one, other, row) in leads_of(net).items():
         for number, end in enumerate(row):
             moves[(one, number)].append((step, (other, end)))
+    return moves
+
+
+def places_ahead(net, place):
+    """Return what rows_ahead does of the places of a net, from one on, by all steps that stand in ways."""
+    moves = place_moves(net)
     return rows_ahead(place, lambda other: moves[other])

@@ -22,6 +22,17 @@ def puts_of(kind, term):
     check_kind(kind)
     check_term(kind, term)
     check_few_puts(kind, term)
+    return all_puts(kind, term)
+
+
+def check_few_puts(kind, term):
+    """Raise TooMany if there are too many pairs of a thing and of a worth of a term."""
+    if many_things(kind) * many_things(worths_kind(kind, term)) > MOST_PUTS:
+        raise TooMany(MOST_PUTS)
+
+
+def all_puts(kind, term):
+    """Return the row, for each thing, of the row, for each worth, of the number of what its put comes to, or None."""
     numbers = numbers_of(kind)
     worths = all_things(worths_kind(kind, term))
     plan = plan_of(kind, term)
@@ -30,12 +41,6 @@ def puts_of(kind, term):
         ends = [plan_puts(plan, thing, worth) for worth in worths]
         rows.append(tuple([numbers[end[1]] if end[0] == "thing" else None for end in ends]))
     return tuple(rows)
-
-
-def check_few_puts(kind, term):
-    """Raise TooMany if there are too many pairs of a thing and of a worth of a term."""
-    if many_things(kind) * many_things(worths_kind(kind, term)) > MOST_PUTS:
-        raise TooMany(MOST_PUTS)
 
 
 def numbers_of(kind):

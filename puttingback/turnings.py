@@ -69,7 +69,8 @@ def all_classes(net):
         if place not in known:
             # As each step can be gone back, the places of a class are all those to which ways lead from one of them.
             lot = tuple(sorted(places_ahead(net, place)))
-            known.update({other: True for other in lot})
+            for other in lot:
+                known[other] = True
             lots.append(lot)
     return lots
 

@@ -14,7 +14,7 @@ LIBRARY = {"heapq": {"heappush", "heappop", "heapify", "heapreplace", "heappushp
            "math": {"gcd", "lcm", "isqrt", "comb", "perm", "factorial"}}
 BUILTINS = set("""len range enumerate zip min max sum abs sorted reversed int str bool bytes list tuple dict set frozenset
 isinstance ord repr any all divmod pow map Exception ValueError TypeError KeyError IndexError LookupError
-ZeroDivisionError ArithmeticError OverflowError RuntimeError NotImplementedError AttributeError""".split())
+ZeroDivisionError ArithmeticError OverflowError RuntimeError NotImplementedError AttributeError property""".split())
 METHODS = set("""append clear copy count endswith extend find get index insert isalnum isalpha isdigit islower isspace
 isupper items join keys ljust lower lstrip partition pop remove replace reverse rfind rjust rpartition rsplit rstrip
 setdefault split splitlines startswith strip update upper values zfill bit_length add discard""".split())
@@ -61,8 +61,20 @@ INTERFACE = {
     "hublate": "may_look_late late_row",
     "nets": "is_net is_turning is_way way_end way_row",
     "turnings": "naming_of is_naming moving_ring classes_of way_between",
+    "onewaynets": "table_from parting_ways",
+    "likenets": "new_numbers way_parting",
+    "losses": "leaves_told lost_pair row_back least_kept",
+    "lives": "is_life life_things life_ends trail_of spared_deeds",
+    "roads": "things_come road_to is_closed_lot",
+    "claims": "is_claim claim_paper stranded",
+    "turning": "first_unturned turned_shares",
+    "keepers": "Keeper",
     "errors": "PutError TooMany InvalidItemText",
 }
+
+
+PROPERTIES = [("keepers", "life"), ("keepers", "thing"), ("keepers", "worths")]
+METHODS_OF_KEEPER = "put undo redo attempt life thing worths"
 
 
 def nodes(*kinds):
@@ -138,6 +150,10 @@ class Files(unittest.TestCase):
             defined = [node.name for node in TREES[name].body if isinstance(node, (ast.FunctionDef, ast.ClassDef))]
             for word in words.split():
                 self.assertIn(word, defined)
+        [keeper] = [node for node in TREES["keepers"].body if isinstance(node, ast.ClassDef)]
+        self.assertEqual((keeper.bases, keeper.decorator_list), ([], []))
+        inner = [node.name for node in keeper.body if isinstance(node, ast.FunctionDef)]
+        self.assertEqual([word for word in inner if not word.startswith("_")], METHODS_OF_KEEPER.split())
 
 
 class Imports(unittest.TestCase):
@@ -182,7 +198,14 @@ class Code(unittest.TestCase):
         for name, node in nodes(ast.stmt):
             self.assertIsInstance(node, STATEMENTS, (name, node.lineno))
         for name, node in nodes(ast.FunctionDef):
-            self.assertEqual(node.decorator_list, [], (name, node.name))
+            if (name, node.name) in PROPERTIES:
+                self.assertEqual([decorator.id for decorator in node.decorator_list], ["property"])
+            else:
+                self.assertEqual(node.decorator_list, [], (name, node.name))
+        for name, node in nodes(ast.Try):
+            # Whatever a function that is called ends with is no own error: it goes on, and what stood is set again.
+            self.assertEqual((name, node.handlers, node.orelse), ("keepers", [], []))
+            self.assertTrue(all(isinstance(inner, (ast.If, ast.Assign)) for inner in node.finalbody))
 
     def test_expressions(self):
         barred = (ast.GeneratorExp, ast.Await, ast.Yield, ast.YieldFrom, ast.NamedExpr, ast.Div, ast.Pow, ast.MatMult)
@@ -235,7 +258,7 @@ class Code(unittest.TestCase):
             bound = bound_names(tree)
             for word in bound:
                 self.assertNotIn(word, known | BARRED, name)
-                self.assertTrue(not word.startswith("__") or word == "__init__", name)
+                self.assertTrue(not word.startswith("__") or word in ("__init__", "__eq__", "__len__"), name)
             for node in ast.walk(tree):
                 if isinstance(node, ast.Name) and node.id in known:
                     self.assertIn(node.id, BUILTINS, (name, node.lineno))

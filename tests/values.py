@@ -1,6 +1,7 @@
 """Values of every sort that the document calls any value, and changes of one place in a value."""
 
 from puttingback import errors
+from puttingback.keepers import Keeper
 
 
 def nested(depth, make):
@@ -29,10 +30,19 @@ def odd_values():
               nested(33, lambda value: ("one", (("a", value), ("b", value)))),
               nested(99, lambda value: ("test", value, (0,), value, value)),
               nested(99, lambda value: ("then", value, value))]
-    made = [errors.PutError("a"), errors.InvalidKind("a"), errors.TooMany(4), errors.InvalidItemText(0)]
-    held = [("whole", made[0]), (made[1],), [made[2]], ("row", (made[3],)), (("a", made[0]),), (made[0], made[1]),
-            (1, (made[1],)), ("set", made[2]), (made[3], 0, 0)]
+    held = []
+    made = [errors.PutError("a"), errors.InvalidKind("a"), errors.TooMany(4), errors.InvalidItemText(0), keeper(0), keeper(1)]
+    for one in made:
+        held += [("whole", one), (one,), [one], ("row", (one,)), (("a", one),), (one, one), (1, (one,)), ("set", one), (one, 0, 0)]
     return plain + wide + deep + shared + made + held
+
+
+def keeper(deeds):
+    """Return a keeper with so many deeds."""
+    made = Keeper((("a", 2),), (("whole",), ("part", "a")), (0,))
+    for _ in range(deeds):
+        made.put(1, 1)
+    return made
 
 
 def places_of(value):
@@ -72,5 +82,5 @@ def spoiled(value):
 def disturbed(value):
     """Yield the value with something odd at one of its places: mostly not what it was, but of any form."""
     for path in places_of(value):
-        for part in (True, None, -1, 0, 1, 13, 10 ** 119, "", "a", "zz", (), (0,), [], ("a", 1), errors.PutError("a")):
+        for part in (True, None, -1, 0, 1, 13, 10 ** 119, "", "a", "zz", (), (0,), [], ("a", 1), errors.PutError("a"), keeper(1)):
             yield replaced(value, path, part)
