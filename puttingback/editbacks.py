@@ -38,9 +38,14 @@ def letter_ways(moves, triples, side):
     """Return the list of all letters of a side at some triples, each with its way, None if it is not taken back."""
     first = first_alike(moves, triples)
     before = classes_before(moves, first, side)
-    lengths = {triple: lengths_to(before, triple) for triple in triples if first[triple] == triple}
-    return [(triple, letter, lengths[first[triple]].get(first[came])) for triple in triples
-            for letter, came in moves[triple] if letter[0] == side]
+    ways = {}
+    for triple in triples:
+        # Triples that do not part let the same letters, and these have the same ways.
+        if first[triple] not in ways:
+            lengths = lengths_to(before, first[triple])
+            own = [(letter, came) for letter, came in moves[triple] if letter[0] == side]
+            ways[first[triple]] = [(letter, lengths.get(first[came])) for letter, came in own]
+    return [(triple, letter, way) for triple in triples for letter, way in ways[first[triple]]]
 
 
 def first_alike(moves, triples):

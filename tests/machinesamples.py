@@ -166,6 +166,20 @@ def climbing(many, left):
     return sides + (tuple(rows) + ((((out, ()),) * 3, ((out, ()),) * 2),),)
 
 
+def mixing(seed, sides):
+    """Return a machine with as many standings and edits of answers as there can be, each letter shuffling all standings."""
+    chance = Chance(seed)
+    rows = [[shuffled(chance, 64) for _ in side] for side in sides]
+    return tuple(sides) + (tuple(tuple(tuple((row[at], chance.numbers(16, len(other))) for row in rows[side])
+                                       for side, other in enumerate((sides[1], sides[0]))) for at in range(64)),)
+
+
+def shuffled(chance, many):
+    """Return a row of all numbers below one, in some order."""
+    left = list(range(many))
+    return tuple(left.pop(chance.below(len(left))) for _ in range(many))
+
+
 def copying(side):
     """Return a machine with two sides that are the same, by which each edit of one is answered by itself on the other."""
     told = tuple((0, (edit,)) for edit in range(len(side)))

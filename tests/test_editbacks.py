@@ -3,7 +3,7 @@ import unittest
 from puttingback.editbacks import longest_way, lost_letter
 from puttingback.errors import InvalidMachine, InvalidSide, NotServing
 from tests.asking import Asking
-from tests.machinesamples import (A, F, GREAT, H, LEAST, REFUSING, climbing, letters, machines, serving, slow_come_by,
+from tests.machinesamples import (A, F, GREAT, H, LEAST, REFUSING, climbing, letters, machines, mixing, serving, slow_come_by,
                                   slow_parting, slow_step, slow_triples, turned)
 from tests.test_editmachines import BAD_MACHINES
 from tests.values import odd_values
@@ -103,6 +103,9 @@ class TakingBack(Asking):
     def test_greatest(self):
         self.assertEqual([longest_way(GREAT, 0), longest_way(GREAT, 1)], [1, 1])
         self.assertEqual([lost_letter(GREAT, 0), lost_letter(GREAT, 1)], [None, None])
+        machine = mixing(4, [((1, 2, 3, 0), (1, 0, 2, 3), (0, 1, 3, 2))] * 2)
+        self.assertEqual([lost_letter(machine, 0), lost_letter(machine, 1)], [None, None])
+        self.assertGreater(longest_way(machine, 0), 3)
         # One ring of all triples: the one letter of the left side goes through 4 places, 63 standings and 3 places.
         rows = tuple(((((at + 1) % 63, (0,) if at == 62 else ()),), ((at, ()),)) for at in range(63))
         ring = (((1, 2, 3, 0),), ((1, 2, 0),), rows)

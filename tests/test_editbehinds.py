@@ -7,8 +7,8 @@ from puttingback.editmachines import failing_row, is_machine
 from puttingback.errors import Failing, InvalidMachine, Unfitting
 from tests.asking import Asking
 from tests.chance import Chance
-from tests.machinesamples import (A, F, GREAT, H, LEAST, REFUSING, copying, counting, mark_at, slow_step, slow_triples,
-                                  standings, turned)
+from tests.machinesamples import (A, F, GREAT, H, LEAST, REFUSING, copying, counting, mark_at, mixing, shuffled, slow_step,
+                                  slow_triples, standings, turned)
 from tests.test_editmachines import BAD_MACHINES
 from tests.values import odd_values
 
@@ -217,6 +217,12 @@ class PutBehind(Asking):
     def test_greatest(self):
         self.assertIsNone(failing_behind(GREAT, GREAT))
         self.too_many(4, put_behind, GREAT, GREAT)
+        # Rows come to nearly all left places, standings, places between, standings and right places that there can be.
+        chance = Chance(1)
+        sides = [tuple(shuffled(chance, 4) for _ in range(3)) for _ in range(3)]
+        one, other = mixing(2, sides[:2]), mixing(3, sides[1:])
+        self.assertIsNone(failing_behind(one, other))
+        self.too_many(4, put_behind, one, other)
         short = GREAT[:2] + (tuple(tuple(tuple((told, answer[:4]) for told, answer in row) for row in standing)
                                    for standing in GREAT[2]),)
         self.assertIsNone(failing_behind(short, short))

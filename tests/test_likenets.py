@@ -6,6 +6,7 @@ from puttingback.likenets import new_numbers, way_parting
 from puttingback.nets import is_way
 from tests.asking import Asking
 from tests.chance import Chance
+from tests.machinesamples import shuffled
 from tests.netsamples import (LEAST, LOSING, N, O, RING, many_of, nets, places, slow_classes, slow_end_any,
                               slow_lead, slow_row)
 from tests.test_nets import BAD_NETS
@@ -13,12 +14,6 @@ from tests.test_turnings import STILL, WHOLE
 from tests.values import odd_values, spoiled
 
 M, P = ((3,), ((0, 0, (1, 2, 0)),)), ((3,), ((0, 0, (1, 0, 2)),))
-
-
-def shuffled(chance, many):
-    """Return a row of all numbers below one, in some order."""
-    left = list(range(many))
-    return tuple(left.pop(chance.below(len(left))) for _ in range(many))
 
 
 def renumbered(net, rows):
